@@ -1,0 +1,1 @@
+"""Probelots: probes of lots, least plans, and noisy answers."""
