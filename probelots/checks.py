@@ -1,11 +1,12 @@
 """Refusals of plans, lots, answers and counts that can't be."""
 
-from probelots.errors import BadAnswers, BadCount, BadLot, BadPlan
+from probelots.errors import BadAnswers, BadChances, BadCount, BadLot, BadPlan
 
 MOST_THINGS = 10
 MOST_PROBES = 16
 MOST_BAD = 3
 MOST_SLIPS = 16
+HUNDRED = 100
 
 
 def is_within(value, low, high):
@@ -38,6 +39,11 @@ def is_answer(value):
     return value is None or is_within(value, 0, 1)
 
 
+def is_chance(value):
+    """Whether it is a number of hundredths."""
+    return is_within(value, 0, HUNDRED)
+
+
 def check_plan(plan):
     """Refuse what is no plan."""
     if not isinstance(plan, tuple) or len(plan) != 2:
@@ -58,15 +64,28 @@ def check_lot(lot, things):
         raise BadLot("no lot of the plan")
 
 
+def first_wrong(values, many, is_right):
+    """The number of the first of so many values that can't be, or lacks, or is too much; None for none."""
+    if not isinstance(values, tuple):
+        return 0
+    for number, value in enumerate(values):
+        if number == many or not is_right(value):
+            return number
+    return len(values) if len(values) < many else None
+
+
 def check_answers(told, many):
     """Refuse what are no answers of so many probes."""
-    if not isinstance(told, tuple):
-        raise BadAnswers(0)
-    for number, answer in enumerate(told):
-        if number == many or not is_answer(answer):
-            raise BadAnswers(number)
-    if len(told) < many:
-        raise BadAnswers(len(told))
+    number = first_wrong(told, many, is_answer)
+    if number is not None:
+        raise BadAnswers(number)
+
+
+def check_chances(chances, things):
+    """Refuse what are no chances of so many things."""
+    number = first_wrong(chances, things, is_chance)
+    if number is not None:
+        raise BadChances(number)
 
 
 def check_count(value, low, high):
@@ -78,3 +97,8 @@ def check_count(value, low, high):
 def check_most(most):
     """Refuse what can't be how many things may be bad."""
     check_count(most, 0, MOST_BAD)
+
+
+def check_slips(slips):
+    """Refuse what can't be how many answers may be slips."""
+    check_count(slips, 0, MOST_SLIPS)

@@ -2,7 +2,7 @@
 
 from itertools import combinations
 
-from probelots.checks import MOST_SLIPS, check_answers, check_count, check_most, check_plan
+from probelots.checks import check_answers, check_most, check_plan, check_slips
 from probelots.lots import answers_of, lots_up_to, slips_in
 
 
@@ -12,7 +12,7 @@ def could(plan, told, most, *, slips=0):
     things, probes = plan
     check_answers(told, len(probes))
     check_most(most)
-    check_count(slips, 0, MOST_SLIPS)
+    check_slips(slips)
     counted = [(lot, slips_in(told, answers_of(probes, lot))) for lot in lots_up_to(things, most)]
     return [(lot, count) for lot, count in counted if count <= slips]
 

@@ -25,6 +25,27 @@ LISTED = {
 }
 
 
+def slow_lots(things, most):
+    """All lots in their turn, found by sorting every set of things."""
+    found = []
+    for mask in range(2 ** things):
+        lot = tuple(thing for thing in range(things) if mask >> thing & 1)
+        if len(lot) <= most:
+            found.append((len(lot), lot))
+    return [lot for _, lot in sorted(found)]
+
+
+def spoil(value):
+    """Change all that can be changed of what was told."""
+    if isinstance(value, (list, tuple)):
+        for part in value:
+            spoil(part)
+    if isinstance(value, list):
+        value.reverse()
+        value.append("spoilt")
+        value[0] = None
+
+
 def refusal(call, *handed, **named):
     """The error that the call raises; no error is a failure of the test."""
     try:

@@ -60,12 +60,18 @@ class Readme(unittest.TestCase):
         names, checked = {}, 0
         for row in code.split("\n"):
             call, _, said = row.partition("#")
-            exec(call, names)
+            name, _, worth = call.strip().rpartition(" = ")
+            if not worth or worth.startswith("from "):
+                exec(call, names)
+                continue
+            given = eval(worth, names)
+            if name:
+                names[name] = given
             if said:
                 right = said.split(": ")[0].replace(" unlike answers", "").strip()
-                self.assertEqual(eval(call.split(" = ")[-1], names), ast.literal_eval(right), row)
+                self.assertEqual(given, ast.literal_eval(right), row)
                 checked += 1
-        self.assertEqual(checked, 9)
+        self.assertEqual(checked, 23)
 
 
 if __name__ == "__main__":

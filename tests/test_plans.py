@@ -2,6 +2,9 @@
 
 import unittest
 
+from probelots.chances import each, shares, tells
+from probelots.desks import Desk
+from probelots.notes import written
 from probelots.plans import answers, beside, grid
 from probelots.reading import apart, could, idle, kinds, sure
 from tests.samples import NO_NUMBERS, NO_TUPLES, Refusing
@@ -16,6 +19,11 @@ TAKING_PLANS = [
     lambda plan: kinds(plan, 1),
     lambda plan: apart(plan, 1),
     lambda plan: idle(plan, 1),
+    lambda plan: shares(plan, (None,) * len(plan[1]), (5,) * plan[0], 5, 1),
+    lambda plan: each(plan, (None,) * len(plan[1]), (5,) * plan[0], 5, 1),
+    lambda plan: tells(plan, (5,) * plan[0], 0, 1) if plan[1] else None,
+    lambda plan: Desk(plan, 1),
+    lambda plan: written(plan, (None,) * len(plan[1])),
 ]
 
 REFUSING_PLANS = [
@@ -27,6 +35,12 @@ REFUSING_PLANS = [
     lambda plan: kinds(plan, 1),
     lambda plan: apart(plan, 1),
     lambda plan: idle(plan, 1),
+    lambda plan: shares(plan, (), (), 5, 1),
+    lambda plan: each(plan, (), (), 5, 1),
+    lambda plan: tells(plan, (), 0, 1),
+    lambda plan: Desk(plan, 1),
+    lambda plan: Desk(plan, 1, slips=1),
+    lambda plan: written(plan, ()),
 ]
 
 
@@ -133,12 +147,19 @@ class Told(Refusing, unittest.TestCase):
             for call in (could, sure):
                 self.refused_at("BadAnswers", number, call, plan, told, 1)
                 self.refused_at("BadAnswers", number, call, plan, told, 1, slips=16)
+            for call in (shares, each):
+                self.refused_at("BadAnswers", number, call, plan, told, (5,) * plan[0], 5, 1)
+            self.refused_at("BadAnswers", number, written, plan, told)
 
     def test_answers_that_may_be(self):
         for told in [(0, 0, 0), (1, 0, 1), (None, None, None), (None, 1, 0)]:
             could(self.PLAN, told, 3)
             sure(self.PLAN, told, 3)
+            shares(self.PLAN, told, (5,) * 4, 5, 3)
+            each(self.PLAN, told, (5,) * 4, 5, 3)
+            written(self.PLAN, told)
         could((4, ()), (), 1)
+        written((4, ()), ())
 
     def test_one_too_few(self):
         self.bad(2, self.PLAN, (0, 0), (1, None), (None, None))

@@ -4,16 +4,29 @@ import copy
 import itertools
 import unittest
 
+from probelots.chances import each, shares, tells
+from probelots.desks import Desk
+from probelots.notes import read, written
 from probelots.plans import answers, beside, grid
 from probelots.reading import apart, could, idle, kinds, sure
-from tests.samples import NO_PLAN, NO_TOLD, Refusing, refusal
+from probelots.trees import best_tree, read_tree
+from tests.samples import NO_PLAN, NO_TOLD, Refusing, refusal, spoil
 
 PLAN = (5, ((0, 1), (1, 2), (4,)))
+TREE = ("probe", (0,), ("probe", (1,), ("lot", ()), ("lot", (1,))), ("lot", (0,)))
+
+
+def made(plan, most, **named):
+    """All that a new desk tells."""
+    desk = Desk(plan, most, **named)
+    return [desk.plan(), desk.answers(), desk.lots(), desk.book(), desk.is_idle()]
+
 
 # Each function, and for each thing that is handed in what may be, what is refused, and by which name.
 GOOD_PLAN = (PLAN, NO_PLAN, "BadPlan")
 GOOD_TOLD = ((1, None, 0), NO_TOLD, "BadAnswers")
 GOOD_MOST = (2, 4, "BadCount")
+GOOD_CHANCES = ((10, 20, 0, 50, 100), [10, 20, 0, 50, 100], "BadChances")
 CALLS = [
     (answers, [GOOD_PLAN, ((0, 4), [0, 4], "BadLot")]),
     (grid, [(2, 0, "BadCount"), (3, "3", "BadCount")]),
@@ -23,8 +36,16 @@ CALLS = [
     (kinds, [GOOD_PLAN, GOOD_MOST]),
     (apart, [GOOD_PLAN, GOOD_MOST]),
     (idle, [GOOD_PLAN, GOOD_MOST]),
+    (shares, [GOOD_PLAN, GOOD_TOLD, GOOD_CHANCES, (5, 101, "BadCount"), GOOD_MOST]),
+    (each, [GOOD_PLAN, GOOD_TOLD, GOOD_CHANCES, (5, -1, "BadCount"), GOOD_MOST]),
+    (tells, [GOOD_PLAN, GOOD_CHANCES, (2, 3, "BadCount"), GOOD_MOST]),
+    (best_tree, [(3, 7, "BadCount"), GOOD_MOST]),
+    (read_tree, [(2, 11, "BadCount"), (1, 4, "BadCount"), (TREE, list(TREE), "BadTree")]),
+    (made, [GOOD_PLAN, GOOD_MOST]),
+    (written, [GOOD_PLAN, GOOD_TOLD]),
+    (read, [("things 2\n+ 0 1", "things 2\n+ 0 1\n", "BadText")]),
 ]
-TAKING_SLIPS = (could, sure)
+TAKING_SLIPS = (could, sure, made)
 
 # Lists in every place, so that a change of what was handed in can be seen.
 WITH_LISTS = [
@@ -44,17 +65,6 @@ def worth(handed):
 def namings(call):
     """Slips as it may be handed in by name, or not at all."""
     return [{}, {"slips": 1}] if call in TAKING_SLIPS else [{}]
-
-
-def spoil(value):
-    """Change all that can be changed of what was told."""
-    if isinstance(value, (list, tuple)):
-        for part in value:
-            spoil(part)
-    if isinstance(value, list):
-        value.reverse()
-        value.append("spoilt")
-        value[0] = None
 
 
 class OrderOfRefusals(Refusing, unittest.TestCase):

@@ -4,7 +4,7 @@ import unittest
 
 from probelots.plans import answers, grid
 from probelots.reading import apart, could, idle, kinds, sure
-from tests.samples import NO_NUMBERS, Refusing
+from tests.samples import NO_NUMBERS, Refusing, slow_lots
 
 PLANS = [
     (1, ()),
@@ -18,16 +18,6 @@ PLANS = [
     grid(3, 3),
     (10, tuple((thing,) for thing in range(10))),
 ]
-
-
-def slow_lots(things, most):
-    """All lots in their turn, found by sorting every set of things."""
-    found = []
-    for mask in range(2 ** things):
-        lot = tuple(thing for thing in range(things) if mask >> thing & 1)
-        if len(lot) <= most:
-            found.append((len(lot), lot))
-    return [lot for _, lot in sorted(found)]
 
 
 def slow_could(plan, told, most, slips):
